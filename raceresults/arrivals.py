@@ -3,6 +3,7 @@
 from raceresults.refusals import Faulty
 from raceresults.texts import bounded_or_none, decoded
 
+# These numbers are answered as they stand.
 OPEN = 0
 CAME = 1
 VOID = 2

@@ -21,3 +21,8 @@ class Faulty(Refusal):
         Refusal.__init__(self, -6)
         self.kind = kind
         self.place = place
+
+
+class NoRace(Refusal):
+    def __init__(self):
+        Refusal.__init__(self, -1)

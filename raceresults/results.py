@@ -1,8 +1,9 @@
 """The calls: what is answered of a card and a result."""
 
-from raceresults.arrivals import read_result
+from raceresults.arrivals import CAME, read_result
 from raceresults.cards import read_card
-from raceresults.refusals import Faulty, Refusal, TooLong
+from raceresults.classes import classes_of
+from raceresults.refusals import Faulty, NoRace, Refusal, TooLong
 from raceresults.texts import LONGEST
 
 
@@ -27,3 +28,24 @@ def judge(card, result):
     except Refusal as e:
         return [e.code]
     return [0]
+
+
+def came(race, card, result):
+    try:
+        return [0] + arrival_row(read_day(card, result), race)
+    except Refusal as e:
+        return [e.code]
+
+
+def arrival_row(day, number):
+    if number < 1 or number > len(day.races):
+        raise NoRace()
+    arrival = day.arrivals[number - 1]
+    if arrival.state != CAME:
+        return [arrival.state]
+    classes = classes_of(day.races[number - 1], arrival)
+    row = [arrival.state, len(classes)]
+    for heads in classes:
+        row.append(len(heads))
+        row.extend(heads)
+    return row
