@@ -3,7 +3,9 @@
 
 def classes_of(race, arrival):
     met = {}
-    classes = [newcomers(group, race.heads, met) for group in arrival.groups]
+    classes = []
+    for group in arrival.groups:
+        classes.append(newcomers(group, race.heads, met))
     starters = starting_heads(race, arrival)
     classes.append([head for head in race.interests() if head in starters and head not in met])
     return classes
