@@ -1,4 +1,4 @@
-"""Cards: which text is one, and the races that it tells."""
+"""Cards: which text is one, and the races and pools that it tells."""
 
 from raceresults.refusals import NoCard
 from raceresults.texts import bounded_or_none, decoded
@@ -30,6 +30,25 @@ class Race:
         return self.heads.count(runner) == 1
 
 
+class Pool:
+    # race is the number of its first race, which of all kinds but legs is its only one.
+    def __init__(self, kind, k, race):
+        self.kind = kind
+        self.k = k
+        self.race = race
+
+    # Of a list with one thing for each of the card's races: those of the pool's own races.
+    def own_part(self, listed):
+        legs = self.k if self.kind == "legs" else 1
+        return listed[self.race - 1:self.race - 1 + legs]
+
+
+class Card:
+    def __init__(self, races, pools):
+        self.races = races
+        self.pools = pools
+
+
 def read_card(data):
     lines = decoded(data).split("\n")
     # The last line is ended too, so nothing may be left behind its end.
@@ -43,13 +62,13 @@ def read_card(data):
         if words[0] == "race" and len(pools) == 0:
             races.append(read_race(words))
         else:
-            check_pool(words, races)
+            pool = read_pool(words, races)
             if words[1] in pools:
                 raise NoCard()
-            pools[words[1]] = True
+            pools[words[1]] = pool
     if len(races) < 1 or len(races) > MOST_RACES or len(pools) > MOST_POOLS:
         raise NoCard()
-    return races
+    return Card(races, list(pools.values()))
 
 
 def check_day(words):
@@ -92,19 +111,20 @@ def read_couple(words, race):
     race.couple(a, b)
 
 
-def check_pool(words, races):
+def read_pool(words, races):
     if len(words) != 16 or words[0] != "pool" or words[4::2] != list(MARKS):
         raise NoCard()
     check_name(words[1])
-    check_kind(words[2], words[3], words[5], races)
+    pool = read_kind(words[2], words[3], words[5], races)
     read_number(words[7], 0, 400)
     read_number(words[9], 1, 1000)
     check_least(words[11], words[13])
     if words[15] not in NONES or (words[15] == "fewer" and words[2] == "place"):
         raise NoCard()
+    return pool
 
 
-def check_kind(kind, length, first, races):
+def read_kind(kind, length, first, races):
     if kind not in KINDS:
         raise NoCard()
     k = read_number(length, KINDS[kind][0], KINDS[kind][1])
@@ -114,6 +134,7 @@ def check_kind(kind, length, first, races):
             raise NoCard()
     elif len(races[race - 1].interests()) < k:
         raise NoCard()
+    return Pool(kind, k, race)
 
 
 def check_least(least_word, unit_word):

@@ -26,3 +26,8 @@ class Faulty(Refusal):
 class NoRace(Refusal):
     def __init__(self):
         Refusal.__init__(self, -1)
+
+
+class NoPool(Refusal):
+    def __init__(self):
+        Refusal.__init__(self, -4)

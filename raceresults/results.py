@@ -1,23 +1,24 @@
 """The calls: what is answered of a card and a result."""
 
-from raceresults.arrivals import CAME, read_result
+from raceresults.arrivals import CAME, OPEN, read_result
 from raceresults.cards import read_card
 from raceresults.classes import classes_of
-from raceresults.refusals import Faulty, NoRace, Refusal, TooLong
+from raceresults.refusals import Faulty, NoPool, NoRace, Refusal, TooLong
 from raceresults.texts import LONGEST
 
 
 class Day:
-    def __init__(self, races, arrivals):
+    def __init__(self, races, pools, arrivals):
         self.races = races
+        self.pools = pools
         self.arrivals = arrivals
 
 
 def read_day(card, result):
     if len(card) > LONGEST or len(result) > LONGEST:
         raise TooLong()
-    races = read_card(card)
-    return Day(races, read_result(result, races))
+    read = read_card(card)
+    return Day(read.races, read.pools, read_result(result, read.races))
 
 
 def judge(card, result):
@@ -49,3 +50,21 @@ def arrival_row(day, number):
         row.append(len(heads))
         row.extend(heads)
     return row
+
+
+def told(pool, card, result):
+    try:
+        day = read_day(card, result)
+        return [0, 1 if is_told(day, find_pool(day, pool)) else 0]
+    except Refusal as e:
+        return [e.code]
+
+
+def find_pool(day, number):
+    if number >= len(day.pools):
+        raise NoPool()
+    return day.pools[number]
+
+
+def is_told(day, pool):
+    return all([arrival.state != OPEN for arrival in pool.own_part(day.arrivals)])
