@@ -31,3 +31,13 @@ class NoRace(Refusal):
 class NoPool(Refusal):
     def __init__(self):
         Refusal.__init__(self, -4)
+
+
+class NoNumber(Refusal):
+    def __init__(self):
+        Refusal.__init__(self, -1)
+
+
+class NotTold(Refusal):
+    def __init__(self):
+        Refusal.__init__(self, -3)

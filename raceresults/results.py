@@ -3,7 +3,9 @@
 from raceresults.arrivals import CAME, OPEN, read_result
 from raceresults.cards import read_card
 from raceresults.classes import classes_of
-from raceresults.refusals import Faulty, NoPool, NoRace, Refusal, TooLong
+from raceresults.combinations import row_with_number
+from raceresults.refusals import Faulty, NoPool, NoRace, NotTold, Refusal, TooLong
+from raceresults.rightness import rightness
 from raceresults.texts import LONGEST
 
 
@@ -68,3 +70,19 @@ def find_pool(day, number):
 
 def is_told(day, pool):
     return all([arrival.state != OPEN for arrival in pool.own_part(day.arrivals)])
+
+
+def right(pool, number, card, result):
+    try:
+        day = read_day(card, result)
+        return [0, rightness_of(day, find_pool(day, pool), number)]
+    except Refusal as e:
+        return [e.code]
+
+
+def rightness_of(day, pool, number):
+    races = pool.own_part(day.races)
+    row = row_with_number(pool, races, number)
+    if not is_told(day, pool):
+        raise NotTold()
+    return rightness(pool, row, races, pool.own_part(day.arrivals))

@@ -1,5 +1,7 @@
 """What the tests share: texts as lists of bytes, and cards to start from."""
 
+import itertools
+
 CARD = (
     "day ascot\n"
     "race 8 couple 1 2 couple 1 3 couple 5 8\n"
@@ -23,3 +25,32 @@ POOL = "pool p place 1 from 1 take 150 break 10 least 0 unit 100 none refund\n"
 
 def as_bytes(text):
     return [ord(sign) for sign in text]
+
+
+def heads_of(race):
+    words = race.split(" ")
+    return [runner for runner in range(1, int(words[0]) + 1) if str(runner) not in words[3::3]]
+
+
+# All combinations of a pool over races, told by their words behind "race", in the order of the rows.
+def rows_of(kind, k, races):
+    heads = heads_of(races[0])
+    if kind == "order":
+        return sorted(itertools.permutations(heads, k))
+    if kind == "any":
+        return sorted(tuple(sorted(row)) for row in itertools.combinations(heads, k))
+    return sorted(itertools.product(*[heads_of(race) for race in races]))
+
+
+def card_of(kind, k, races, first=1):
+    pool = f"pool p {kind} {k} from {first} take 150 break 10 least 0 unit 100 none carry\n"
+    return "day d\n" + "".join(f"race {race}\n" for race in races) + pool
+
+
+# An arrival is told by the words behind "came", or is "void", or None of an open race.
+def result_of(arrivals):
+    lines = ""
+    for number, arrival in enumerate(arrivals, start=1):
+        if arrival is not None:
+            lines += f"race {number} " + ("void\n" if arrival == "void" else f"came {arrival}\n")
+    return lines

@@ -15,7 +15,7 @@ def asked(pool, result, card=CARD):
     return told(pool, as_bytes(card), as_bytes(result))
 
 
-def result_of(states):
+def result_with(states):
     lines = {"open": "", "void": "void", "came": "came 2 1", "heat": "came 1=2", "out": "came 2 out 1"}
     return "".join(f"race {race} {lines[states[race]]}\n" for race in sorted(states) if lines[states[race]])
 
@@ -49,16 +49,16 @@ class OneRace(Told):
 
     def test_each_race_open_alone(self):
         for state in ("void", "came", "heat", "out"):
-            self.tells(result_of(every_race(state, (1, "open"))), 2, 3, 4, 5, 6)
-            self.tells(result_of(every_race(state, (2, "open"))), 0, 1, 3, 4, 5, 6)
-            self.tells(result_of(every_race(state, (3, "open"))), 0, 1, 2, 4, 5, 6)
-            self.tells(result_of(every_race(state, (4, "open"))), 0, 1, 2, 3, 5, 6)
-            self.tells(result_of(every_race(state, (5, "open"))), 0, 1, 2, 3, 4)
-            self.tells(result_of(every_race(state, (6, "open"))), 0, 1, 2, 3, 4, 5)
+            self.tells(result_with(every_race(state, (1, "open"))), 2, 3, 4, 5, 6)
+            self.tells(result_with(every_race(state, (2, "open"))), 0, 1, 3, 4, 5, 6)
+            self.tells(result_with(every_race(state, (3, "open"))), 0, 1, 2, 4, 5, 6)
+            self.tells(result_with(every_race(state, (4, "open"))), 0, 1, 2, 3, 5, 6)
+            self.tells(result_with(every_race(state, (5, "open"))), 0, 1, 2, 3, 4)
+            self.tells(result_with(every_race(state, (6, "open"))), 0, 1, 2, 3, 4, 5)
 
     def test_all_told(self):
         for state in ("void", "came", "heat", "out"):
-            self.tells(result_of(every_race(state)), *range(8))
+            self.tells(result_with(every_race(state)), *range(8))
 
     def test_fewer_came_in_than_k(self):
         self.tells("race 3 came 7\n", 3)
@@ -70,7 +70,7 @@ class OneRace(Told):
             if states.count("open") in (0, 1, 3, 6):
                 by_race = dict(zip(range(1, 7), states))
                 pools = [pool for pool in range(8) if all(by_race[race] != "open" for race in RACES_OF_POOLS[pool])]
-                self.tells(result_of(by_race), *pools)
+                self.tells(result_with(by_race), *pools)
 
 
 class Legs(Told):
@@ -87,23 +87,23 @@ class Legs(Told):
                     states[race] = "open"
                     with self.subTest(k=k, first=first, race=race):
                         expected = [0, 0 if race in legs else 1]
-                        self.assertEqual(asked(0, result_of(states), self.card(k, first)), expected)
+                        self.assertEqual(asked(0, result_with(states), self.card(k, first)), expected)
 
     def test_its_own_races_alone_are_told(self):
         for k in range(2, 7):
             for first in range(1, 10 - k):
                 for state in ("came", "void", "heat"):
                     states = {race: state for race in range(first, first + k)}
-                    self.assertEqual(asked(0, result_of(states), self.card(k, first)), [0, 1])
+                    self.assertEqual(asked(0, result_with(states), self.card(k, first)), [0, 1])
 
     def test_races_outside_alone_are_told(self):
         for first in (1, 3, 6):
             states = {race: "came" for race in range(1, 9) if not first <= race < first + 3}
-            self.assertEqual(asked(0, result_of(states), self.card(3, first)), [0, 0])
+            self.assertEqual(asked(0, result_with(states), self.card(3, first)), [0, 0])
 
     def test_void_among_them(self):
         for states in itertools.product(("void", "came"), repeat=3):
-            result = result_of(dict(zip((2, 3, 4), states)))
+            result = result_with(dict(zip((2, 3, 4), states)))
             self.assertEqual(asked(0, result, self.card(3, 2)), [0, 1])
             self.assertEqual(asked(0, result, self.card(4, 2)), [0, 0])
             self.assertEqual(asked(0, result, self.card(4, 1)), [0, 0])
@@ -118,7 +118,7 @@ class Legs(Told):
 
 class Refused(Told):
     def test_no_such_pool(self):
-        for result in ("", result_of(every_race("came")), result_of(every_race("void"))):
+        for result in ("", result_with(every_race("came")), result_with(every_race("void"))):
             for pool in (8, 9, 63, 64, 65535, 65536, 4294967295):
                 self.assertEqual(asked(pool, result), [-4])
         self.assertEqual(asked(0, "race 1 void\n"), [0, 1])
@@ -168,7 +168,7 @@ class Refused(Told):
 
 class Handed(Told):
     def test_nothing_is_changed_or_kept(self):
-        results = ("", result_of(every_race("came")), "race 1 void\n", "race 1 came 1=1\n", "x" * 65537)
+        results = ("", result_with(every_race("came")), "race 1 void\n", "race 1 came 1=1\n", "x" * 65537)
         for card in (CARD, NO_CARD):
             for result in results:
                 for pool in (0, 2, 7, 8):
@@ -178,7 +178,7 @@ class Handed(Told):
                     again = list(first)
                     first.append(7)
                     asked(0, "race 1 void\n", "day d\nrace 2\n")
-                    asked(pool, result_of(every_race("void")))
+                    asked(pool, result_with(every_race("void")))
                     self.assertEqual(told(pool, card_bytes, result_bytes), again)
 
     def test_kinds(self):
