@@ -1,29 +1,79 @@
-"""Combinations: how many a pool has, and the row of numbers that stands at a place among them."""
+"""Combinations: how many a pool has, which row of numbers stands at a place among them, and at which a row stands.
+
+Rows are counted, not made one by one: six legs may have 24 to the 6th.
+"""
 
 from raceresults.refusals import NoNumber
 
 
-# races are those of the pool's own. Rows are counted, not made one by one: six legs may have 24 to the 6th.
+# A row is put together from parts, one behind the other: of each part's heads so many are taken.
+class Part:
+    def __init__(self, heads, taken):
+        self.heads = heads
+        self.taken = taken
+
+
+# choices has, for each of the pool's own races, the heads that may stand in a row.
+def parts_of(pool, choices):
+    taken = pool.k if pool.kind in ("order", "any") else 1
+    return [Part(heads, taken) for heads in choices]
+
+
+# races are those of the pool's own.
+def all_parts(pool, races):
+    return parts_of(pool, [race.interests() for race in races])
+
+
 def row_with_number(pool, races, number):
-    choices = [race.interests() for race in races]
-    if number >= count_rows(pool, choices):
+    parts = all_parts(pool, races)
+    if number >= count_rows(pool.kind, parts):
         raise NoNumber()
-    if pool.kind == "order":
-        return ordered_row(choices[0], pool.k, number)
-    if pool.kind == "any":
-        return rising_row(choices[0], pool.k, number)
-    return row_of_races(choices, number)
+    return row_at(pool.kind, parts, number)
 
 
-def count_rows(pool, choices):
-    if pool.kind == "order":
-        return count_ordered(len(choices[0]), pool.k)
-    if pool.kind == "any":
-        return count_rising(len(choices[0]), pool.k)
+def number_of_row(pool, races, row):
+    number = 0
+    start = 0
+    for part in all_parts(pool, races):
+        end = start + part.taken
+        number = number * count_taken(pool.kind, part) + number_in_part(pool.kind, part.heads, row[start:end])
+        start = end
+    return number
+
+
+def count_rows(kind, parts):
     rows = 1
-    for heads in choices:
-        rows *= len(heads)
+    for part in parts:
+        rows *= count_taken(kind, part)
     return rows
+
+
+# The last part's heads change fastest. Of any the sorting mixes the parts, and the rows rise all the same, since
+# among the parts that are handed in there's at most one of which not all is taken.
+def row_at(kind, parts, number):
+    row = []
+    for part in reversed(parts):
+        number, at = divmod(number, count_taken(kind, part))
+        row = taken_at(kind, part, at) + row
+    return sorted(row) if kind == "any" else row
+
+
+def count_taken(kind, part):
+    if kind == "any":
+        return count_rising(len(part.heads), part.taken)
+    return count_ordered(len(part.heads), part.taken)
+
+
+def taken_at(kind, part, number):
+    if kind == "any":
+        return rising_row(part.heads, part.taken, number)
+    return ordered_row(part.heads, part.taken, number)
+
+
+def number_in_part(kind, heads, row):
+    if kind == "any":
+        return rising_number(heads, row)
+    return ordered_number(heads, row)
 
 
 def count_ordered(heads, k):
@@ -46,6 +96,15 @@ def ordered_row(heads, k, number):
     return row
 
 
+def ordered_number(heads, row):
+    left = list(heads)
+    number = 0
+    for head in row:
+        number = number * len(left) + left.index(head)
+        left.remove(head)
+    return number
+
+
 def rising_row(heads, k, number):
     row = []
     for at, head in enumerate(heads):
@@ -59,11 +118,14 @@ def rising_row(heads, k, number):
     return row
 
 
-# One interest of each race, the last race's changing fastest; a pool of place has the one race.
-def row_of_races(choices, number):
-    row = []
-    for heads in reversed(choices):
-        number, at = divmod(number, len(heads))
-        row.append(heads[at])
-    row.reverse()
-    return row
+def rising_number(heads, row):
+    number = 0
+    met = 0
+    for at, head in enumerate(heads):
+        if met == len(row):
+            return number
+        if head == row[met]:
+            met += 1
+        else:
+            number += count_rising(len(heads) - at - 1, len(row) - met - 1)
+    return number

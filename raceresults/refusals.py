@@ -41,3 +41,8 @@ class NoNumber(Refusal):
 class NotTold(Refusal):
     def __init__(self):
         Refusal.__init__(self, -3)
+
+
+class NoWinner(Refusal):
+    def __init__(self):
+        Refusal.__init__(self, -4)

@@ -7,6 +7,7 @@ from raceresults.combinations import row_with_number
 from raceresults.refusals import Faulty, NoPool, NoRace, NotTold, Refusal, TooLong
 from raceresults.rightness import rightness
 from raceresults.texts import LONGEST
+from raceresults.winners import winning_number
 
 
 class Day:
@@ -86,3 +87,22 @@ def rightness_of(day, pool, number):
     if not is_told(day, pool):
         raise NotTold()
     return rightness(pool, row, races, pool.own_part(day.arrivals))
+
+
+def won(pool, i, card, result):
+    try:
+        day = read_day(card, result)
+        return [0, number_won(day, find_told_pool(day, pool), i)]
+    except Refusal as e:
+        return [e.code]
+
+
+def find_told_pool(day, number):
+    pool = find_pool(day, number)
+    if not is_told(day, pool):
+        raise NotTold()
+    return pool
+
+
+def number_won(day, pool, i):
+    return winning_number(pool, pool.own_part(day.races), pool.own_part(day.arrivals), i)

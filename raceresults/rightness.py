@@ -18,9 +18,13 @@ def legs_rightness(row, races, arrivals):
     for head, race, arrival in zip(row, races, arrivals):
         if has_out([head], race, arrival):
             return REFUNDED
-        if arrival.state == VOID or head in classes_of(race, arrival)[0]:
+        if head in heads_right_in_leg(race, arrival):
             right_legs += 1
     return right_legs
+
+
+def heads_right_in_leg(race, arrival):
+    return race.interests() if arrival.state == VOID else classes_of(race, arrival)[0]
 
 
 def race_rightness(pool, row, race, arrival):
@@ -28,7 +32,7 @@ def race_rightness(pool, row, race, arrival):
         return REFUNDED
     classes = classes_of(race, arrival)
     if pool.kind == "place":
-        return place_rightness(pool.k, row[0], classes)
+        return 1 if row[0] in placed_heads(pool.k, classes) else 0
     if pool.kind == "order":
         return order_rightness(row, classes)
     return any_rightness(row, classes)
@@ -40,14 +44,13 @@ def has_out(row, race, arrival):
     return any([head not in starters for head in row])
 
 
-def place_rightness(k, head, classes):
-    lower = 0
+def placed_heads(k, classes):
+    placed = []
     # The last class stands behind: its interests haven't come in, however few are before them.
     for heads in classes[:-1]:
-        if head in heads:
-            return 1 if lower < k else 0
-        lower += len(heads)
-    return 0
+        if len(placed) < k:
+            placed.extend(heads)
+    return sorted(placed)
 
 
 # A class may come in any order, so a number is right where any one of the class that's due may stand.

@@ -20,6 +20,9 @@ CARD = (
     "pool jackpot legs 6 from 1 take 250 break 10 least 0 unit 1 none fewer\n"
 )
 
+NO_CARD = "day d\n"
+HIGHEST = 4294967295
+
 POOL = "pool p place 1 from 1 take 150 break 10 least 0 unit 100 none refund\n"
 
 

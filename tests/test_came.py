@@ -4,9 +4,7 @@ import random
 import unittest
 
 from raceresults.results import came
-from support import CARD, as_bytes
-
-NO_CARD = "day d\n"
+from support import CARD, HIGHEST, as_bytes
 
 
 def told(race, result, card=CARD):
@@ -135,60 +133,11 @@ class Coupled(Came):
 
 class Refused(Came):
     def test_no_such_race(self):
-        for race in (0, 7, 17, 65536, 4294967295):
+        for race in (0, 7, 17, 65536, HIGHEST):
             for result in ("", "race 1 came 1\nrace 6 void\n"):
                 self.assertEqual(told(race, result), [-1])
         self.assertEqual(told(6, ""), [0, 0])
         self.assertEqual(told(2, "", "day d\nrace 2\n"), [-1])
-
-    def test_fault(self):
-        for result in ("race 1", "\n", "rice 1 void\n", "race 7 void\n", "race 1 came 1=1\n"):
-            self.assertEqual(told(2, result), [-6])
-
-    def test_fault_in_another_line(self):
-        self.assertEqual(told(1, "race 1 came 1\nrace 2 came 5\n"), [-6])
-        self.assertEqual(told(1, "race 1 came 1\nrace 2"), [-6])
-
-    def test_no_card(self):
-        for card in ("", NO_CARD, CARD[:-1], CARD + "\n"):
-            self.assertEqual(told(1, "race 1 void\n", card), [-8])
-
-    def test_too_long(self):
-        self.assertEqual(came(1, as_bytes(CARD), [10] * 65537), [-2])
-        self.assertEqual(came(1, [10] * 65537, []), [-2])
-        self.assertEqual(came(1, as_bytes(CARD), [10] * 65536), [-6])
-        self.assertEqual(came(1, [10] * 65536, []), [-8])
-
-    def test_order(self):
-        long = [120] * 65537
-        for race in (0, 1, 4294967295):
-            for other in ("", NO_CARD, CARD, "x"):
-                self.assertEqual(came(race, as_bytes(other), long), [-2])
-                self.assertEqual(came(race, long, as_bytes(other)), [-2])
-            for result in ("", "x", "race 1 void\n"):
-                self.assertEqual(told(race, result, NO_CARD), [-8])
-            self.assertEqual(told(race, "x"), [-6])
-
-
-class Handed(Came):
-    def test_nothing_is_changed_or_kept(self):
-        results = ("", "race 1 came 3 1=2 out 4\nrace 2 void\n", "race 1 came 1=1\n", "x" * 65537)
-        for card in (CARD, NO_CARD):
-            for result in results:
-                for race in (0, 1, 2, 3):
-                    card_bytes, result_bytes = as_bytes(card), as_bytes(result)
-                    first = came(race, card_bytes, result_bytes)
-                    self.assertEqual((card_bytes, result_bytes), (as_bytes(card), as_bytes(result)))
-                    again = list(first)
-                    first.append(7)
-                    told(1, "race 1 came 2 out 1\n", "day d\nrace 3 couple 1 2\n")
-                    self.assertEqual(came(race, card_bytes, result_bytes), again)
-
-    def test_kinds(self):
-        for race in range(4):
-            answer = told(race, "race 1 came 3 1=2 out 4\nrace 2 void\n")
-            self.assertIs(type(answer), list)
-            self.assertTrue(all(type(number) is int for number in answer))
 
 
 class ByTheDocument(Came):

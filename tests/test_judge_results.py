@@ -3,9 +3,8 @@
 import unittest
 
 from raceresults.results import judge
-from support import CARD, as_bytes
+from support import CARD, NO_CARD, as_bytes
 
-NO_CARD = "day d\n"
 FIRST = "race 1 came 1\n"
 
 

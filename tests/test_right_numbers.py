@@ -1,15 +1,12 @@
 """right: which combination a number stands for, and what is refused, in which order."""
 
-import itertools
 import unittest
 
 from raceresults.results import right
-from support import CARD, as_bytes, card_of, heads_of, result_of, rows_of
+from support import CARD, HIGHEST, as_bytes, card_of, heads_of, result_of, rows_of
 
-NO_CARD = "day d\n"
 # How many combinations each pool of CARD has.
 ROWS = (5, 5, 12, 11 * 10 * 9 * 8, 1, 16 * 15 * 14 // 6, 16 * 6, 5 * 4 * 11 * 2 * 16 * 6)
-HIGHEST = 4294967295
 
 
 class Numbered(unittest.TestCase):
@@ -152,10 +149,6 @@ class Ends(Numbered):
 
 
 class Refused(Numbered):
-    def each(self, pool, result, expected, card=CARD):
-        for number in (0, 1, HIGHEST):
-            self.assertEqual(right(pool, number, as_bytes(card), as_bytes(result)), expected, (pool, number, result))
-
     def test_not_told(self):
         voids = [f"race {race} void\n" for race in range(1, 7)]
         for pool, rows in enumerate(ROWS):
@@ -176,51 +169,3 @@ class Refused(Numbered):
 
     def test_an_interest_that_is_out_in_a_pool_not_told(self):
         self.assertEqual(right(6, 0, as_bytes(CARD), as_bytes("race 5 came 3 out 1,2\n")), [-3])
-
-    def test_no_such_pool(self):
-        for result in ("", "race 1 came 1\n", "".join(f"race {race} void\n" for race in range(1, 7))):
-            for pool in (8, 9, 64, 65536, HIGHEST):
-                self.each(pool, result, [-4])
-        self.each(0, "race 1 void\n", [-4], "day d\nrace 2\n")
-
-    def test_fault(self):
-        for pool in (0, 7, 8, HIGHEST):
-            for result in ("race 1", "\n", "rice 1 void\n", "race 7 void\n", "race 1 came 1=1\n", "race 1 void\nx"):
-                self.each(pool, result, [-6])
-
-    def test_no_card(self):
-        for pool in (0, 7, 8, HIGHEST):
-            for card in ("", NO_CARD, CARD[:-1], CARD + "\n"):
-                for result in ("", "x", "race 1 void\n"):
-                    self.each(pool, result, [-8], card)
-
-    def test_too_long(self):
-        long = [120] * 65537
-        for pool, number in itertools.product((0, 8, HIGHEST), (0, HIGHEST)):
-            for other in ("", NO_CARD, CARD, "x"):
-                self.assertEqual(right(pool, number, as_bytes(other), long), [-2])
-                self.assertEqual(right(pool, number, long, as_bytes(other)), [-2])
-        self.assertEqual(right(0, 0, as_bytes(CARD), [10] * 65536), [-6])
-        self.assertEqual(right(0, 0, [10] * 65536, []), [-8])
-
-
-class Handed(Numbered):
-    def test_nothing_is_changed_or_kept(self):
-        came = "".join(f"race {race} came 2 1\n" for race in range(1, 7))
-        for card in (CARD, NO_CARD):
-            for result in ("", came, "race 1 void\nrace 5 came 3 out 1,2\n", "race 1 came 1=1\n", "x" * 65537):
-                for pool, number in itertools.product((0, 2, 3, 5, 7, 8), (0, 4, HIGHEST)):
-                    card_bytes, result_bytes = as_bytes(card), as_bytes(result)
-                    first = right(pool, number, card_bytes, result_bytes)
-                    self.assertEqual((card_bytes, result_bytes), (as_bytes(card), as_bytes(result)))
-                    again = list(first)
-                    first.append(7)
-                    right(0, 1, as_bytes(card_of("order", 2, ["3"])), as_bytes("race 1 came 2 out 1\n"))
-                    self.assertEqual(right(pool, number, card_bytes, result_bytes), again)
-
-    def test_kinds(self):
-        result = as_bytes("".join(f"race {race} came 2 1\n" for race in range(1, 6)) + "race 6 void\n")
-        for pool, number in itertools.product(range(9), (0, 1, HIGHEST)):
-            answer = right(pool, number, as_bytes(CARD), result)
-            self.assertIs(type(answer), list)
-            self.assertTrue(all(type(each) is int for each in answer))
