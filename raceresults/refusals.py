@@ -46,3 +46,8 @@ class NotTold(Refusal):
 class NoWinner(Refusal):
     def __init__(self):
         Refusal.__init__(self, -4)
+
+
+class TooMany(Refusal):
+    def __init__(self):
+        Refusal.__init__(self, -9)

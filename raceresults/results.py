@@ -4,6 +4,7 @@ from raceresults.arrivals import CAME, OPEN, read_result
 from raceresults.cards import read_card
 from raceresults.classes import classes_of
 from raceresults.combinations import row_with_number
+from raceresults.refunding import count_refunded
 from raceresults.refusals import Faulty, NoPool, NoRace, NotTold, Refusal, TooLong
 from raceresults.rightness import rightness
 from raceresults.texts import LONGEST
@@ -106,3 +107,15 @@ def find_told_pool(day, number):
 
 def number_won(day, pool, i):
     return winning_number(pool, pool.own_part(day.races), pool.own_part(day.arrivals), i)
+
+
+def refunds(pool, card, result):
+    try:
+        day = read_day(card, result)
+        return [0, number_refunded(day, find_told_pool(day, pool))]
+    except Refusal as e:
+        return [e.code]
+
+
+def number_refunded(day, pool):
+    return count_refunded(pool, pool.own_part(day.races), pool.own_part(day.arrivals))

@@ -3,7 +3,7 @@
 import itertools
 import unittest
 
-from raceresults.results import came, judge, right, told, won
+from raceresults.results import came, judge, refunds, right, told, won
 from support import CARD, HIGHEST, NO_CARD, as_bytes, card_of
 
 # Each call is asked with two numbers, of which it takes as many as it has.
@@ -13,6 +13,7 @@ CALLS = {
     "told": lambda first, second, card, result: told(first, card, result),
     "right": lambda first, second, card, result: right(first, second, card, result),
     "won": lambda first, second, card, result: won(first, second, card, result),
+    "refunds": lambda first, second, card, result: refunds(first, card, result),
 }
 OF_POOLS = [name for name in CALLS if name not in ("judge", "came")]
 OF_TOLD_POOLS = [name for name in OF_POOLS if name != "told"]

@@ -12,7 +12,7 @@ BUILTIN_NAMES = set(vars(builtins)) - {"__init__"}
 OTHER_FILES = {name for name in vars(builtins) if not name.startswith("__")} | {"site", "conftest", "__main__"}
 INTERFACE = {"results.py": {"judge": ["card", "result"], "came": ["race", "card", "result"],
                             "told": ["pool", "card", "result"], "right": ["pool", "number", "card", "result"],
-                            "won": ["pool", "i", "card", "result"]}}
+                            "won": ["pool", "i", "card", "result"], "refunds": ["pool", "card", "result"]}}
 
 ALLOWED_BUILTINS = set("""len range enumerate zip min max sum abs sorted reversed int str bool list tuple dict set
 frozenset isinstance ord repr any all divmod Exception ValueError TypeError KeyError IndexError LookupError
